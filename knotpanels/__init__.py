@@ -1,0 +1,1 @@
+"""An interlace artist's desk; its calls are in knotpanels.desk."""

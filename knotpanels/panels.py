@@ -1,0 +1,82 @@
+"""Panels: their squares, sides and places, and the bytes that tell them."""
+
+MARK = (0x50, 0x4C, 0x50, 0x31)
+HEAD = 6
+MOST_SQUARES = 8
+
+CROSSING = 0
+ALONG = 1
+ACROSS = 2
+
+UPPER = 0
+RIGHT = 1
+LOWER = 2
+LEFT = 3
+
+
+class Panel:
+    """A right panel: how wide and high it is, and what stands at each place."""
+
+    def __init__(self, wide, high, stands):
+        self.wide = wide
+        self.high = high
+        self.stands = stands
+
+
+def is_size(n):
+    """Whether a panel may be n squares wide or high."""
+    return 1 <= n <= MOST_SQUARES
+
+
+def place_count(wide, high):
+    """How many places a panel of this size has."""
+    return (wide - 1) * high + wide * (high - 1)
+
+
+def upright_place(wide, x, y):
+    """The place between squares (x, y) and (x + 1, y)."""
+    return y * (wide - 1) + x
+
+
+def level_place(wide, high, x, y):
+    """The place between squares (x, y) and (x, y + 1)."""
+    return (wide - 1) * high + y * wide + x
+
+
+def place_at(wide, high, s, k):
+    """The place at side k of square s, or None where that side is the border."""
+    x = s % wide
+    y = s // wide
+    if k == UPPER and y > 0:
+        return level_place(wide, high, x, y - 1)
+    if k == RIGHT and x < wide - 1:
+        return upright_place(wide, x, y)
+    if k == LOWER and y < high - 1:
+        return level_place(wide, high, x, y)
+    if k == LEFT and x > 0:
+        return upright_place(wide, x - 1, y)
+    return None
+
+
+def is_panel(b):
+    """Whether b is a right panel's bytes.
+
+    The order is the document's: each step relies on the ones ahead of it.
+    """
+    if len(b) < HEAD or tuple(b[:4]) != MARK:
+        return False
+    if not is_size(b[4]) or not is_size(b[5]):
+        return False
+    if len(b) != HEAD + place_count(b[4], b[5]):
+        return False
+    return max(b[HEAD:], default=CROSSING) <= ACROSS
+
+
+def read_panel(b):
+    """The panel that right bytes b tell."""
+    return Panel(b[4], b[5], b[HEAD:])
+
+
+def panel_bytes(panel):
+    """The bytes that tell a panel."""
+    return list(MARK) + [panel.wide, panel.high] + panel.stands
