@@ -4,14 +4,20 @@ Each gives back one list: the answer, then what else is told. A refusal is
 its number alone.
 """
 
-from knotpanels.motions import MOTIONS, least_motion, motions_between, moved_bytes
-from knotpanels.panels import is_panel, read_panel
+from knotpanels.grouping import group_count
+from knotpanels.motions import MOTIONS, least_motion, motions_between, moved_bytes, moved_panel, piece_to
+from knotpanels.panels import is_panel, is_size, read_panel
+from knotpanels.spaces import court_numbers, room_numbers
+from knotpanels.strands import strand_numbers
+from knotpanels.tally import number_bytes, unlike_count
 
 MOST_LONG = 1024
+MOST_KINDS = 3
 
 RIGHT_SO_FAR = 0
 OUT_OF_RANGE = -1
 TOO_LONG = -2
+NOT_THERE = -4
 NO_PANEL = -6
 
 
@@ -70,3 +76,48 @@ def same(b, c):
     if len(leading) == 0:
         return [0]
     return [1, leading[0]]
+
+
+def strand_to(m, k, b):
+    """The number that strand k has in the panel moved by motion m."""
+    refused = panels_refused([b])
+    if refused != RIGHT_SO_FAR:
+        return [refused]
+    if m >= MOTIONS:
+        return [OUT_OF_RANGE]
+    panel = read_panel(b)
+    numbers = strand_numbers(panel)
+    if k not in numbers:
+        return [NOT_THERE]
+    piece = piece_to(panel.wide, panel.high, m, numbers.index(k))
+    return [strand_numbers(moved_panel(panel, m))[piece]]
+
+
+def count(w, h, k):
+    """How many bytes the number has of panels of a size and kinds that aren't alike; they."""
+    if not is_size(w) or not is_size(h) or not 1 <= k <= MOST_KINDS:
+        return [OUT_OF_RANGE]
+    told = number_bytes(unlike_count(w, h, k))
+    return [len(told)] + told
+
+
+def areas(b):
+    """How many areas; how many rooms; how many courts."""
+    refused = panels_refused([b])
+    if refused != RIGHT_SO_FAR:
+        return [refused]
+    panel = read_panel(b)
+    rooms = group_count(room_numbers(panel))
+    courts = group_count(court_numbers(panel))
+    return [rooms + courts, rooms, courts]
+
+
+def room(s, b):
+    """Square s's room."""
+    refused = panels_refused([b])
+    if refused != RIGHT_SO_FAR:
+        return [refused]
+    numbers = room_numbers(read_panel(b))
+    if s >= len(numbers):
+        return [NOT_THERE]
+    return [numbers[s]]

@@ -39,6 +39,15 @@ def square_to(wide, high, m, s):
     return y * wide + x
 
 
+def piece_to(wide, high, m, i):
+    """The piece to which piece i of a panel of this size goes."""
+    one = side_to(m, i % 4)
+    other = side_to(m, (i + 1) % 4)
+    # A mirror changes which of the two sides the piece begins at.
+    first = one if (one + 1) % 4 == other else other
+    return 4 * square_to(wide, high, m, i // 4) + first
+
+
 def places_to(wide, high, m):
     """For each place of a panel of this size the place to which it goes."""
     new_wide = moved_wide(wide, high, m)

@@ -14,9 +14,8 @@ LOWER = 2
 LEFT = 3
 
 
+# Only right panels are made, so what reads one needn't judge it again.
 class Panel:
-    """A right panel: how wide and high it is, and what stands at each place."""
-
     def __init__(self, wide, high, stands):
         self.wide = wide
         self.high = high
@@ -58,6 +57,17 @@ def place_at(wide, high, s, k):
     return None
 
 
+def square_beyond(wide, s, k):
+    """The square beyond side k of square s, where that isn't the border."""
+    if k == UPPER:
+        return s - wide
+    if k == RIGHT:
+        return s + 1
+    if k == LOWER:
+        return s + wide
+    return s - 1
+
+
 def is_panel(b):
     """Whether b is a right panel's bytes.
 
@@ -80,3 +90,15 @@ def read_panel(b):
 def panel_bytes(panel):
     """The bytes that tell a panel."""
     return list(MARK) + [panel.wide, panel.high] + panel.stands
+
+
+def stands_at(panel, s, k):
+    """What stands at side k of square s.
+
+    The border turns strands back and leads along itself just as a break
+    along does, so it's told as one.
+    """
+    p = place_at(panel.wide, panel.high, s, k)
+    if p is None:
+        return ALONG
+    return panel.stands[p]

@@ -1,16 +1,18 @@
 """What the tests share: panels to try, and the document's words worked out in another way.
 
-A panel is laid out here as a grid of 2 wide - 1 by 2 high - 1 cells: squares
-(and what lies between four of them) at the even and odd crossings of the
-grid, and each place's number in the cell between its two squares. Mirrors
-and turns then move whole rows of cells, with no arithmetic on places.
+A panel is laid out here as a grid of 2 high - 1 rows of 2 wide - 1 cells. The
+squares are every other cell of every other row, and what stands at a place is
+in the cell between its two squares. Mirrors and turns then move whole rows of
+cells, with no arithmetic on places.
 """
 
 import itertools
 
 MARK = [0x50, 0x4C, 0x50, 0x31]
 BLANK = 9
-SMALL_SIZES = [(1, 1), (1, 2), (2, 1), (1, 4), (4, 1), (2, 2), (2, 3), (3, 2), (3, 3), (4, 3), (3, 5), (8, 8), (8, 1), (1, 8)]
+SAMPLE_SIZES = [
+    (1, 1), (1, 2), (2, 1), (1, 4), (4, 1), (1, 8), (8, 1), (2, 2), (2, 3), (3, 2), (3, 3), (4, 3), (3, 5), (8, 8),
+]
 
 
 def places(wide, high):
@@ -40,7 +42,7 @@ def mixed(wide, high, seed):
 def samples(seeds=4):
     """Panels of many sizes: of one kind each, and of all kinds."""
     found = []
-    for wide, high in SMALL_SIZES:
+    for wide, high in SAMPLE_SIZES:
         found += [plain(wide, high, kind) for kind in range(3)]
         found += [mixed(wide, high, seed) for seed in range(seeds)]
     return found
@@ -90,6 +92,123 @@ def after(first, second):
     picture = [[1, 2], [3, 4]]
     both = moved_grid(moved_grid(picture, first), second)
     return [m for m in range(8) if moved_grid(picture, m) == both][0]
+
+
+# Strands are followed here as lines on paper. A square is two units wide and
+# high; a piece runs from the middle of one side to that of the next, and is
+# told by those two points. What stands at a side says how the step by which
+# a line comes to its middle goes on.
+MIDDLES = [(1, 0), (2, 1), (1, 2), (0, 1)]
+
+
+def piece_points(wide, i):
+    s, d = i // 4, i % 4
+    x, y = 2 * (s % wide), 2 * (s // wide)
+    return frozenset((x + dx, y + dy) for dx, dy in (MIDDLES[d], MIDDLES[(d + 1) % 4]))
+
+
+def kind_at_point(b, point):
+    """What stands at the side with this middle; the border is None."""
+    x, y = point
+    if x in (0, 2 * b[4]) or y in (0, 2 * b[5]):
+        return None
+    return grid(b)[y - 1][x - 1]
+
+
+def next_point(b, before, point):
+    """Where a line goes on that has come from the point before."""
+    dx, dy = point[0] - before[0], point[1] - before[1]
+    kind = kind_at_point(b, point)
+    upright = point[0] % 2 == 0
+    if kind == 0:
+        return point[0] + dx, point[1] + dy
+    # A break across an upright side, or along a level one, lets the line on to
+    # the right or left and turns it back up or down; the others the reverse.
+    if (kind == 2) == upright:
+        return point[0] + dx, point[1] - dy
+    return point[0] - dx, point[1] + dy
+
+
+def strands_of(b):
+    """The strands, by their numbers, each as the set of its pieces' points."""
+    found, seen = [], set()
+    for i in range(4 * b[4] * b[5]):
+        piece = piece_points(b[4], i)
+        if piece in seen:
+            continue
+        strand = set()
+        before, point = sorted(piece)
+        while frozenset((before, point)) not in strand:
+            strand.add(frozenset((before, point)))
+            before, point = point, next_point(b, before, point)
+        found.append(strand)
+        seen |= strand
+    return found
+
+
+def moved_point(wide, high, m, point):
+    x, y = point
+    if m >= 4:
+        x = 2 * wide - x
+    for quarter in range(m % 4):
+        x, y = 2 * high - y, x
+        wide, high = high, wide
+    return x, y
+
+
+def strand_moved(b, m, k):
+    """The number that strand k has in the panel moved by motion m."""
+    goes = {frozenset(moved_point(b[4], b[5], m, point) for point in piece) for piece in strands_of(b)[k]}
+    return strands_of(moved_by(b, m)).index(goes)
+
+
+def merged(sets):
+    """Sets put together as long as two of them meet."""
+    found = []
+    for new in sets:
+        new = set(new)
+        apart = []
+        for old in found:
+            if old & new:
+                new |= old
+            else:
+                apart.append(old)
+        found = apart + [new]
+    return found
+
+
+def group_count(b):
+    """How many groups the strands have: lines that share a crossing's point."""
+    lines = [{point for piece in strand for point in piece} for strand in strands_of(b)]
+    crossings = [point for point in set().union(*lines) if kind_at_point(b, point) == 0]
+    meetings = [{n for n, line in enumerate(lines) if point in line} for point in crossings]
+    return len(merged([{n} for n in range(len(lines))] + meetings))
+
+
+def rooms_of(b):
+    """The rooms, by their numbers, as sets of squares."""
+    wide, rows = b[4], grid(b)
+    links = [{s} for s in range(wide * b[5])]
+    for s in range(wide * b[5]):
+        x, y = s % wide, s // wide
+        if 2 * x + 1 < len(rows[0]) and rows[2 * y][2 * x + 1] == 2:
+            links.append({s, s + 1})
+        if 2 * y + 1 < len(rows) and rows[2 * y + 1][2 * x] == 2:
+            links.append({s, s + wide})
+    return sorted(merged(links), key=min)
+
+
+def court_count(b):
+    """How many courts there are: the outside, and inner corners by breaks along."""
+    wide, high = b[4], b[5]
+    inner = {(x, y) for x in range(1, wide) for y in range(1, high)}
+    links = [{corner} for corner in inner] + [{"outside"}]
+    for (row, column), kind in zip(place_cells(wide, high), b[6:]):
+        if kind == 1:
+            x, y = (column + 1) // 2, (row + 1) // 2
+            ends = [(x, y), (x, y + 1)] if row % 2 == 0 else [(x, y), (x + 1, y)]
+            links.append({end if end in inner else "outside" for end in ends})
+    return len(merged(links))
 
 
 def wrong_panels():
