@@ -6,8 +6,8 @@ its number alone.
 
 from knotpanels.grouping import group_count
 from knotpanels.motions import MOTIONS, least_motion, motions_between, moved_bytes, moved_panel, piece_to
-from knotpanels.panels import is_panel, is_size, read_panel
-from knotpanels.spaces import court_numbers, room_numbers
+from knotpanels.panels import CROSSING, is_panel, is_size, read_panel
+from knotpanels.spaces import areas_round, corner_at, court_areas, court_numbers, piece_sides, room_numbers
 from knotpanels.strands import strand_numbers
 from knotpanels.tally import number_bytes, unlike_count
 
@@ -15,9 +15,11 @@ MOST_LONG = 1024
 MOST_KINDS = 3
 
 RIGHT_SO_FAR = 0
+TOLD = 0
 OUT_OF_RANGE = -1
 TOO_LONG = -2
 NOT_THERE = -4
+NO_CROSSING = -5
 NO_PANEL = -6
 
 
@@ -121,3 +123,52 @@ def room(s, b):
     if s >= len(numbers):
         return [NOT_THERE]
     return [numbers[s]]
+
+
+def court(x, y, b):
+    """Corner (x, y)'s court, by its number as an area."""
+    refused = panels_refused([b])
+    if refused != RIGHT_SO_FAR:
+        return [refused]
+    panel = read_panel(b)
+    if x > panel.wide or y > panel.high:
+        return [NOT_THERE]
+    return [court_areas(panel)[corner_at(panel.wide, x, y)]]
+
+
+def area(a, b):
+    """0; 0 for a room, 1 for a court; how many pieces lie along it; how many squares or corners it has."""
+    refused = panels_refused([b])
+    if refused != RIGHT_SO_FAR:
+        return [refused]
+    panel = read_panel(b)
+    rooms = room_numbers(panel)
+    belongs = rooms + court_areas(panel)
+    if a not in belongs:
+        return [NOT_THERE]
+    along = [pair for pair in piece_sides(panel) if a in pair]
+    return [TOLD, 0 if a in rooms else 1, len(along), belongs.count(a)]
+
+
+def sides(i, b):
+    """0; the room and the court on either side of piece i."""
+    refused = panels_refused([b])
+    if refused != RIGHT_SO_FAR:
+        return [refused]
+    pairs = piece_sides(read_panel(b))
+    if i >= len(pairs):
+        return [NOT_THERE]
+    return [TOLD] + list(pairs[i])
+
+
+def areas_at(p, b):
+    """0; the two rooms and the two courts at the crossing at place p."""
+    refused = panels_refused([b])
+    if refused != RIGHT_SO_FAR:
+        return [refused]
+    panel = read_panel(b)
+    if p >= len(panel.stands):
+        return [NOT_THERE]
+    if panel.stands[p] != CROSSING:
+        return [NO_CROSSING]
+    return [TOLD] + areas_round(panel, p)

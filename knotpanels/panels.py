@@ -68,6 +68,18 @@ def square_beyond(wide, s, k):
     return s - 1
 
 
+def place_side(wide, high, p):
+    """The side of the square before it, the left or the upper one, at which place p lies."""
+    return RIGHT if p < (wide - 1) * high else LOWER
+
+
+def square_before(wide, high, p):
+    """The square before place p: the left or the upper one."""
+    if place_side(wide, high, p) == RIGHT:
+        return p // (wide - 1) * wide + p % (wide - 1)
+    return p - (wide - 1) * high
+
+
 def is_panel(b):
     """Whether b is a right panel's bytes.
 

@@ -198,17 +198,33 @@ def rooms_of(b):
     return sorted(merged(links), key=min)
 
 
-def court_count(b):
-    """How many courts there are: the outside, and inner corners by breaks along."""
+def courts_of(b):
+    """The courts, by their numbers among courts, as sets of corners (x, y)."""
     wide, high = b[4], b[5]
-    inner = {(x, y) for x in range(1, wide) for y in range(1, high)}
-    links = [{corner} for corner in inner] + [{"outside"}]
+    corners = [(x, y) for x in range(wide + 1) for y in range(high + 1)]
+    outside = {(x, y) for x, y in corners if x in (0, wide) or y in (0, high)}
+    links = [outside] + [{corner} for corner in corners]
     for (row, column), kind in zip(place_cells(wide, high), b[6:]):
         if kind == 1:
             x, y = (column + 1) // 2, (row + 1) // 2
-            ends = [(x, y), (x, y + 1)] if row % 2 == 0 else [(x, y), (x + 1, y)]
-            links.append({end if end in inner else "outside" for end in ends})
-    return len(merged(links))
+            links.append({(x, y), (x, y + 1)} if row % 2 == 0 else {(x, y), (x + 1, y)})
+    return sorted(merged(links), key=lambda court: min((y, x) for x, y in court))
+
+
+def areas_on_paper(b):
+    """The number of the area at each square's middle and at each corner, as points on paper."""
+    wide = b[4]
+    rooms = [{(2 * (s % wide) + 1, 2 * (s // wide) + 1) for s in squares} for squares in rooms_of(b)]
+    courts = [{(2 * x, 2 * y) for x, y in corners} for corners in courts_of(b)]
+    return {point: number for number, points in enumerate(rooms + courts) for point in points}
+
+
+def piece_between(wide, i):
+    """The points on paper between which piece i lies: its square's middle, and the corner that it cuts off."""
+    s = i // 4
+    middle = (2 * (s % wide) + 1, 2 * (s // wide) + 1)
+    (x, y), (other_x, other_y) = piece_points(wide, i)
+    return middle, (x + other_x - middle[0], y + other_y - middle[1])
 
 
 def wrong_panels():

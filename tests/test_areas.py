@@ -4,7 +4,7 @@ import unittest
 
 from knotpanels.desk import areas, moved
 from tests.helper import (
-    all_panels, court_count, group_count, long_bytes, mixed, plain, rooms_of, samples, told, wrong_panels,
+    all_panels, courts_of, group_count, long_bytes, mixed, plain, rooms_of, samples, told, wrong_panels,
 )
 
 
@@ -37,7 +37,7 @@ class Areas(unittest.TestCase):
 
     def test_samples_by_squares_and_corners(self):
         for b in samples() + list(all_panels(2, 2, 3)):
-            rooms, courts = len(rooms_of(b)), court_count(b)
+            rooms, courts = len(rooms_of(b)), len(courts_of(b))
             self.assertEqual(areas(b), [rooms + courts, rooms, courts], b)
 
     def test_as_many_as_crossings_groups_and_one(self):
