@@ -4,9 +4,10 @@ Each gives back one list: the answer, then what else is told. A refusal is
 its number alone.
 """
 
+from knotpanels.bands import coming_round, copies_diagram, copies_panel, is_between, open_strands, ring_strands
 from knotpanels.grouping import group_count
 from knotpanels.motions import MOTIONS, least_motion, motions_between, moved_bytes, moved_panel, piece_to
-from knotpanels.panels import CROSSING, is_panel, is_size, read_panel
+from knotpanels.panels import CROSSING, is_panel, is_size, panel_bytes, read_panel
 from knotpanels.spaces import areas_round, corner_at, court_areas, court_numbers, piece_sides, room_numbers
 from knotpanels.strands import strand_numbers
 from knotpanels.tally import number_bytes, unlike_count
@@ -21,6 +22,7 @@ TOO_LONG = -2
 NOT_THERE = -4
 NO_CROSSING = -5
 NO_PANEL = -6
+WRONG_LIST = -9
 
 
 def panels_refused(given):
@@ -34,6 +36,18 @@ def panels_refused(given):
     for b in given:
         if not is_panel(b):
             return NO_PANEL
+    return RIGHT_SO_FAR
+
+
+def band_refused(b, j):
+    """The refusal of a unit's bytes and what stands between two copies, or 0 if they are a band's."""
+    if len(j) > MOST_LONG:
+        return TOO_LONG
+    refused = panels_refused([b])
+    if refused != RIGHT_SO_FAR:
+        return refused
+    if not is_between(j, read_panel(b).high):
+        return WRONG_LIST
     return RIGHT_SO_FAR
 
 
@@ -172,3 +186,47 @@ def areas_at(p, b):
     if panel.stands[p] != CROSSING:
         return [NO_CROSSING]
     return [TOLD] + areas_round(panel, p)
+
+
+def band(ring, n, b, j):
+    """How many strands n copies have, turned back at the border (ring 0) or as a ring (1)."""
+    refused = band_refused(b, j)
+    if refused != RIGHT_SO_FAR:
+        return [refused]
+    if ring > 1 or n == 0:
+        return [OUT_OF_RANGE]
+    if ring == 1:
+        return [ring_strands(read_panel(b), j, n)]
+    return [open_strands(read_panel(b), j, n)]
+
+
+def arcs(n, b, j):
+    """How many closed strands the diagram of n copies has; of each point the one that it's joined with."""
+    refused = band_refused(b, j)
+    if refused != RIGHT_SO_FAR:
+        return [refused]
+    if n == 0:
+        return [OUT_OF_RANGE]
+    diagram = copies_diagram(read_panel(b), j, n)
+    return [diagram.closed] + diagram.joined
+
+
+def band_panel(n, b, j):
+    """How many bytes the panel of n copies has; they."""
+    refused = band_refused(b, j)
+    if refused != RIGHT_SO_FAR:
+        return [refused]
+    unit = read_panel(b)
+    # No copies are nought squares wide, and that's no size either.
+    if not is_size(n * unit.wide):
+        return [OUT_OF_RANGE]
+    told = panel_bytes(copies_panel(unit, j, n))
+    return [len(told)] + told
+
+
+def round_of(b, j):
+    """0; from how many copies on and every how many diagrams come round; how many strands more there are each time."""
+    refused = band_refused(b, j)
+    if refused != RIGHT_SO_FAR:
+        return [refused]
+    return [TOLD] + coming_round(read_panel(b), j)

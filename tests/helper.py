@@ -107,30 +107,35 @@ def piece_points(wide, i):
     return frozenset((x + dx, y + dy) for dx, dy in (MIDDLES[d], MIDDLES[(d + 1) % 4]))
 
 
-def kind_at_point(b, point):
-    """What stands at the side with this middle; the border is None."""
-    x, y = point
-    if x in (0, 2 * b[4]) or y in (0, 2 * b[5]):
-        return None
-    return grid(b)[y - 1][x - 1]
+def kinds_on_paper(rows):
+    """What stands at the middle of each side between squares, by the rows of cells."""
+    cells = [(x + 1, y + 1, kind) for y, row in enumerate(rows) for x, kind in enumerate(row)]
+    return {(x, y): kind for x, y, kind in cells if kind != BLANK}
 
 
-def next_point(b, before, point):
-    """Where a line goes on that has come from the point before."""
-    dx, dy = point[0] - before[0], point[1] - before[1]
-    kind = kind_at_point(b, point)
+def turned(kinds, point, dx, dy):
+    """The step by which a line goes on that has come to the point by the step (dx, dy)."""
+    kind = kinds.get(point)
     upright = point[0] % 2 == 0
     if kind == 0:
-        return point[0] + dx, point[1] + dy
+        return dx, dy
     # A break across an upright side, or along a level one, lets the line on to
     # the right or left and turns it back up or down; the others the reverse.
+    # The border turns it back as breaks along do.
     if (kind == 2) == upright:
-        return point[0] + dx, point[1] - dy
-    return point[0] - dx, point[1] + dy
+        return dx, -dy
+    return -dx, dy
+
+
+def next_point(kinds, before, point):
+    """Where a line goes on that has come from the point before."""
+    dx, dy = turned(kinds, point, point[0] - before[0], point[1] - before[1])
+    return point[0] + dx, point[1] + dy
 
 
 def strands_of(b):
     """The strands, by their numbers, each as the set of its pieces' points."""
+    kinds = kinds_on_paper(grid(b))
     found, seen = [], set()
     for i in range(4 * b[4] * b[5]):
         piece = piece_points(b[4], i)
@@ -140,7 +145,7 @@ def strands_of(b):
         before, point = sorted(piece)
         while frozenset((before, point)) not in strand:
             strand.add(frozenset((before, point)))
-            before, point = point, next_point(b, before, point)
+            before, point = point, next_point(kinds, before, point)
         found.append(strand)
         seen |= strand
     return found
@@ -180,7 +185,7 @@ def merged(sets):
 def group_count(b):
     """How many groups the strands have: lines that share a crossing's point."""
     lines = [{point for piece in strand for point in piece} for strand in strands_of(b)]
-    crossings = [point for point in set().union(*lines) if kind_at_point(b, point) == 0]
+    crossings = [point for point, kind in kinds_on_paper(grid(b)).items() if kind == 0]
     meetings = [{n for n, line in enumerate(lines) if point in line} for point in crossings]
     return len(merged([{n} for n in range(len(lines))] + meetings))
 
@@ -225,6 +230,116 @@ def piece_between(wide, i):
     middle = (2 * (s % wide) + 1, 2 * (s // wide) + 1)
     (x, y), (other_x, other_y) = piece_points(wide, i)
     return middle, (x + other_x - middle[0], y + other_y - middle[1])
+
+
+# Bands are drawn as rows of cells, too: the unit's, again and again, each time
+# with a column of what stands between behind them. The last such column is
+# where a ring comes round; paper that ends ahead of it is the panel of n copies.
+def ring_rows(b, j, n):
+    rows = []
+    for number, cells in enumerate(grid(b)):
+        between = j[number // 2] if number % 2 == 0 else BLANK
+        rows.append((cells + [between]) * n)
+    return rows
+
+
+def open_rows(b, j, n):
+    return [row[:-1] for row in ring_rows(b, j, n)]
+
+
+def lines_on_paper(kinds, wide, high, ring):
+    """All lines, each as the set of its pieces' middles (in half units); a ring's right border is its left one."""
+    around = 2 * wide if ring else 4 * wide
+    kinds = {(x % around, y): kind for (x, y), kind in kinds.items()}
+    found, seen = [], set()
+    for x, y, dx, dy in pieces_on_paper(wide, high):
+        line = set()
+        while (middle := ((2 * x + dx) % (2 * around), 2 * y + dy)) not in seen | line:
+            line.add(middle)
+            x, y = (x + dx) % around, y + dy
+            dx, dy = turned(kinds, (x, y), dx, dy)
+        if line:
+            found.append(line)
+            seen |= line
+    return found
+
+
+def pieces_on_paper(wide, high):
+    """Each piece as the point where it begins and the step to where it ends."""
+    for s in range(wide * high):
+        for d in range(4):
+            (x, y), (end_x, end_y) = MIDDLES[d], MIDDLES[(d + 1) % 4]
+            yield 2 * (s % wide) + x, 2 * (s // wide) + y, end_x - x, end_y - y
+
+
+def traced_strands(b, j, n, ring):
+    """How many strands n copies have: all of them followed."""
+    rows = ring_rows(b, j, n) if ring else open_rows(b, j, n)
+    return len(lines_on_paper(kinds_on_paper(rows), n * b[4], b[5], ring))
+
+
+def traced_arcs(b, j, n):
+    """The diagram of n copies as it's told, all strands followed."""
+    wide, high, kinds = n * b[4], b[5], kinds_on_paper(open_rows(b, j, n))
+    steps = [(0, 1, -1), (0, 1, 1), (2 * wide, -1, 1), (2 * wide, -1, -1)]
+    points = [(x, 2 * y + 1, dx, dy) for pair in (steps[:2], steps[2:]) for y in range(high) for x, dx, dy in pair]
+    joined = []
+    for x, y, dx, dy in points:
+        x, y = x + dx, y + dy
+        while x not in (0, 2 * wide):
+            dx, dy = turned(kinds, (x, y), dx, dy)
+            x, y = x + dx, y + dy
+        joined.append(points.index((x, y, -dx, -dy)))
+    lines = lines_on_paper(kinds, wide, high, False)
+    closed = [line for line in lines if all(1 < x < 4 * wide - 1 for x, y in line)]
+    return [len(closed)] + joined
+
+
+def behind(first, second, j):
+    """What's told of a diagram and another behind it, put together by points that hang together."""
+    half = 2 * len(j)
+    links = [{("first", p), ("first", q)} for p, q in enumerate(first[1:])]
+    links += [{("second", p), ("second", q)} for p, q in enumerate(second[1:])]
+    for y, kind in enumerate(j):
+        right = [("first", half + 2 * y), ("first", half + 2 * y + 1)]
+        left = [("second", 2 * y), ("second", 2 * y + 1)]
+        if kind == 1:
+            links += [set(right), set(left)]
+        else:
+            links += [set(pair) for pair in zip(right, left if kind == 0 else left[::-1])]
+    points = [("first", p) for p in range(half)] + [("second", half + p) for p in range(half)]
+    joined, closed = [None] * (2 * half), first[0] + second[0]
+    for strand in merged(links):
+        outer = [points.index(point) for point in strand if point in points]
+        if not outer:
+            closed += 1
+        else:
+            joined[outer[0]], joined[outer[1]] = outer[1], outer[0]
+    return [closed] + joined
+
+
+def mixed_between(high, seed):
+    """What stands between in each row, of all kinds, always the same for the same seed."""
+    return mixed(high + 1, 1, seed + 50)[6:]
+
+
+def sample_bands():
+    """Units with what stands between: of one kind each, and of all kinds."""
+    found = []
+    for wide, high in ((1, 1), (2, 1), (1, 2), (2, 2), (3, 2), (2, 3), (1, 4), (4, 3), (3, 5)):
+        found += [(plain(wide, high, kind), [between] * high) for kind in range(3) for between in range(3)]
+        found += [(mixed(wide, high, seed), mixed_between(high, seed)) for seed in range(6)]
+    found += [(mixed(wide, high, 3), mixed_between(high, 3)) for wide, high in ((8, 8), (8, 1), (1, 8), (8, 3), (3, 8))]
+    return found
+
+
+def wrong_betweens(high):
+    """Lists that don't tell what stands between in so many rows, each at most 1,024 long."""
+    wrong = [[], [0] * (high - 1), [0] * (high + 1), [0] * 1024]
+    for spot in range(high):
+        for number in (3, 4294967295):
+            wrong.append([0] * spot + [number] + [0] * (high - 1 - spot))
+    return wrong
 
 
 def wrong_panels():

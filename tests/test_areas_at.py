@@ -30,7 +30,8 @@ class AreasAt(unittest.TestCase):
         self.assertEqual(all_areas_at(told(2, 1, [0])), [[0, 0, 1, 2, 2]])
         self.assertEqual(all_areas_at(told(1, 2, [0])), [[0, 0, 1, 2, 2]])
         # Two by two: the outside is 4, the corner within 5.
-        self.assertEqual(all_areas_at(plain(2, 2, 0)), [[0, 0, 1, 4, 5], [0, 2, 3, 5, 4], [0, 0, 2, 4, 5], [0, 1, 3, 5, 4]])
+        four = [[0, 0, 1, 4, 5], [0, 2, 3, 5, 4], [0, 0, 2, 4, 5], [0, 1, 3, 5, 4]]
+        self.assertEqual(all_areas_at(plain(2, 2, 0)), four)
 
     def test_wider_and_higher(self):
         wider = [

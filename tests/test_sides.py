@@ -4,7 +4,7 @@ import unittest
 
 from knotpanels.desk import areas, areas_at, court, room, sides
 from tests.helper import (
-    all_panels, areas_on_paper, kind_at_point, long_bytes, mixed, next_point, piece_between, piece_points,
+    all_panels, areas_on_paper, grid, kinds_on_paper, long_bytes, mixed, next_point, piece_between, piece_points,
     place_cells, plain, samples, told, wrong_panels,
 )
 
@@ -14,11 +14,13 @@ def all_sides(b):
 
 
 def ways(b):
-    """Each piece's points with those of the piece that follows, both ways, and the point between."""
+    """Each piece's points with what stands where it's left, that point, and the piece that follows; both ways."""
+    kinds = kinds_on_paper(grid(b))
     for i in range(4 * b[4] * b[5]):
         one, other = piece_points(b[4], i)
         for before, point in ((one, other), (other, one)):
-            yield frozenset((before, point)), point, frozenset((point, next_point(b, before, point)))
+            following = frozenset((point, next_point(kinds, before, point)))
+            yield frozenset((before, point)), kinds.get(point), point, following
 
 
 class Sides(unittest.TestCase):
@@ -55,16 +57,16 @@ class Sides(unittest.TestCase):
     def test_pieces_joined_without_a_crossing_lie_between_the_same(self):
         for b in [mixed(4, 3, seed) for seed in range(6)] + [mixed(3, 5, 1), mixed(1, 8, 2), mixed(8, 1, 3)]:
             lies = {piece_points(b[4], i): found for i, found in enumerate(all_sides(b))}
-            for piece, point, following in ways(b):
-                if kind_at_point(b, point) != 0:
+            for piece, kind, point, following in ways(b):
+                if kind != 0:
                     self.assertEqual(lies[piece], lies[following], b)
 
     def test_pieces_at_a_crossing_lie_between_its_areas(self):
         for b in (mixed(4, 3, 1), mixed(3, 5, 2), plain(3, 3, 0)):
             lies = {piece_points(b[4], i): found for i, found in enumerate(all_sides(b))}
             place = {(column + 1, row + 1): p for p, (row, column) in enumerate(place_cells(b[4], b[5]))}
-            for piece, point, following in ways(b):
-                if kind_at_point(b, point) == 0:
+            for piece, kind, point, following in ways(b):
+                if kind == 0:
                     four = areas_at(place[point], b)
                     # Straight on, both are changed: to the other room and the other court.
                     self.assertEqual(sorted((lies[piece][1], lies[following][1])), sorted(four[1:3]))
