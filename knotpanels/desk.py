@@ -1,16 +1,19 @@
 """The calls of the interlace artist's desk.
 
 Each gives back one list: the answer, then what else is told. A refusal is
-its number alone.
+its number alone, but for a drawing's: that tells the fault's place, too.
 """
 
 from knotpanels.bands import coming_round, copies_diagram, copies_panel, is_between, open_strands, ring_strands
+from knotpanels.breaks import strand_groups
+from knotpanels.cards import Card, card_drawing, drawing_fault, read_card
 from knotpanels.grouping import group_count
 from knotpanels.motions import MOTIONS, least_motion, motions_between, moved_bytes, moved_panel, piece_to
 from knotpanels.panels import CROSSING, is_panel, is_size, panel_bytes, read_panel
 from knotpanels.spaces import areas_round, corner_at, court_areas, court_numbers, piece_sides, room_numbers
-from knotpanels.strands import strand_numbers
+from knotpanels.strands import strand_count, strand_numbers
 from knotpanels.tally import number_bytes, unlike_count
+from knotpanels.weaves import is_weave, takes_turns
 
 MOST_LONG = 1024
 MOST_KINDS = 3
@@ -22,6 +25,7 @@ TOO_LONG = -2
 NOT_THERE = -4
 NO_CROSSING = -5
 NO_PANEL = -6
+NO_CARD = -6
 WRONG_LIST = -9
 
 
@@ -49,6 +53,28 @@ def band_refused(b, j):
     if not is_between(j, read_panel(b).high):
         return WRONG_LIST
     return RIGHT_SO_FAR
+
+
+def weave_refused(b, w):
+    """The refusal of a panel's bytes and a weave of it, or 0 if they are a card's."""
+    if len(w) > MOST_LONG:
+        return TOO_LONG
+    refused = panels_refused([b])
+    if refused != RIGHT_SO_FAR:
+        return refused
+    if not is_weave(read_panel(b), w):
+        return WRONG_LIST
+    return RIGHT_SO_FAR
+
+
+def drawing_refused(t):
+    """The refusal of a drawing and what's told with it, or nothing if it's a card's."""
+    if len(t) > MOST_LONG:
+        return [TOO_LONG]
+    fault = drawing_fault(t)
+    if fault is not None:
+        return [NO_CARD, fault]
+    return []
 
 
 def moved(m, b):
@@ -230,3 +256,42 @@ def round_of(b, j):
     if refused != RIGHT_SO_FAR:
         return [refused]
     return [TOLD] + coming_round(read_panel(b), j)
+
+
+def card(b, w):
+    """How many bytes the drawing has of a panel and its weave; they."""
+    refused = weave_refused(b, w)
+    if refused != RIGHT_SO_FAR:
+        return [refused]
+    told = card_drawing(Card(read_panel(b), w))
+    return [len(told)] + told
+
+
+def card_panel(t):
+    """How many bytes the card's panel has; they."""
+    refused = drawing_refused(t)
+    if len(refused) > 0:
+        return refused
+    told = panel_bytes(read_card(t).panel)
+    return [len(told)] + told
+
+
+def card_weave(t):
+    """How many bits the card's weave has; they."""
+    refused = drawing_refused(t)
+    if len(refused) > 0:
+        return refused
+    told = read_card(t).weave
+    return [len(told)] + told
+
+
+def card_judge(t):
+    """1 if the card is finished, else 0; 1 if it takes turns, else 0; how many strands; how many groups."""
+    refused = drawing_refused(t)
+    if len(refused) > 0:
+        return refused
+    drawn = read_card(t)
+    turns = 1 if takes_turns(drawn.panel, drawn.weave) else 0
+    strands = strand_count(drawn.panel)
+    groups = strand_groups(drawn.panel)
+    return [turns if strands == groups else 0, turns, strands, groups]

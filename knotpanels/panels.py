@@ -104,6 +104,11 @@ def panel_bytes(panel):
     return list(MARK) + [panel.wide, panel.high] + panel.stands
 
 
+def crossing_places(panel):
+    """The places at which crossings stand, rising."""
+    return [p for p in range(len(panel.stands)) if panel.stands[p] == CROSSING]
+
+
 def stands_at(panel, s, k):
     """What stands at side k of square s.
 

@@ -364,3 +364,174 @@ def wrong_panels():
 def long_bytes():
     """Too many bytes: a right panel's with some behind it, and none such at all."""
     return [told(1, 1, []) + [0] * 1019, [255] * 1025, [0] * 2000]
+
+
+# Cards are drawn as text, from the rows of cells, and read by following lines
+# over the signs: at a crossing the line is over whose slope the sign shows.
+SIGNS = "\\/|-"
+
+
+def in_bytes(text):
+    return [ord(sign) for sign in text]
+
+
+def in_text(t):
+    return "".join(chr(byte) for byte in t)
+
+
+def crossings(b):
+    return b[6:].count(0)
+
+
+def all_weaves(b):
+    return [list(bits) for bits in itertools.product(range(2), repeat=crossings(b))]
+
+
+def mixed_weave(b, seed):
+    """A weave of either bit, always the same for the same seed."""
+    return [kind % 2 for kind in mixed(crossings(b) + 1, 1, seed + 90)[6:]]
+
+
+def sample_cards():
+    """Panels with weaves of one bit alone, and of both."""
+    found = []
+    for b in samples(4) + [mixed(wide, high, 1) for wide, high in ((8, 2), (2, 8), (7, 5), (5, 7))]:
+        found += [(b, [bit] * crossings(b)) for bit in range(2)]
+        found += [(b, mixed_weave(b, seed)) for seed in range(3)]
+    return found
+
+
+def slope(wide, i):
+    """The sign of the line that piece i lies on."""
+    (x, y), (other_x, other_y) = piece_points(wide, i)
+    return "\\" if (other_x - x) * (other_y - y) > 0 else "/"
+
+
+def drawing_of(b, w):
+    """A card's drawing: at a crossing the slope of the piece that's over."""
+    wide, bits = b[4], iter(w)
+    rows = [[" " if cell == BLANK else cell for cell in row] for row in grid(b)]
+    for row in rows[::2]:
+        row[::2] = "o" * wide
+    for row, column in place_cells(wide, b[5]):
+        kind, side = rows[row][column], 1 + row % 2
+        if kind == 0:
+            piece = 4 * (row // 2 * wide + column // 2) + side
+            rows[row][column] = slope(wide, piece if next(bits) else piece - 1)
+        else:
+            rows[row][column] = "|" if (kind == 1) == (side == 1) else "-"
+    return in_bytes("".join("".join(row) + "\n" for row in rows))
+
+
+def kind_shown(sign, upright):
+    """What stands at an upright or level side that has this sign."""
+    if sign in "\\/":
+        return 0
+    return 1 if (sign == "|") == upright else 2
+
+
+def courses_on_paper(t):
+    """Each strand's course over a card: at each crossing passed its point and whether the strand is over."""
+    rows = in_text(t).split("\n")[:-1]
+    signs = {(x + 1, y + 1): row[x] for y, row in enumerate(rows) for x in range(len(row)) if (x + y) % 2}
+    kinds = {point: kind_shown(sign, point[0] % 2 == 0) for point, sign in signs.items()}
+    found, seen = [], set()
+    for x, y, dx, dy in pieces_on_paper((len(rows[0]) + 1) // 2, (len(rows) + 1) // 2):
+        if (2 * x + dx, 2 * y + dy) in seen:
+            continue
+        passed = []
+        while (2 * x + dx, 2 * y + dy) not in seen:
+            seen.add((2 * x + dx, 2 * y + dy))
+            x, y = x + dx, y + dy
+            if kinds.get((x, y)) == 0:
+                passed.append(((x, y), signs[x, y] == ("\\" if dx == dy else "/")))
+            dx, dy = turned(kinds, (x, y), dx, dy)
+        found.append(passed)
+    return found
+
+
+def wrong_turns(passed):
+    """Where along a course the strand is both times over or both times under, as numbers of the first of the two."""
+    overs = [over for point, over in passed]
+    return [n for n, over in enumerate(overs) if over == overs[(n + 1) % len(overs)]]
+
+
+def judged_on_paper(t):
+    """What card_judge tells."""
+    courses = courses_on_paper(t)
+    turns = not any(wrong_turns(passed) for passed in courses)
+    groups = len(merged([{n} | {point for point, over in passed} for n, passed in enumerate(courses)]))
+    return [int(turns and len(courses) == groups), int(turns), len(courses), groups]
+
+
+def drawing_forms():
+    """For each size of a drawing what may stand at each place."""
+    found = []
+    for wide, high in itertools.product(range(1, 9), repeat=2):
+        squares = (["o", SIGNS] * wide)[:-1] + ["\n"]
+        between = ([SIGNS, " "] * wide)[:-1] + ["\n"]
+        found.append(((squares + between) * high)[:-len(between)])
+    return found
+
+
+DRAWING_FORMS = drawing_forms()
+
+
+def first_fault(t):
+    """The first place where no card's drawing of any size goes on as t does; None if t is one."""
+    text, furthest = in_text(t), 0
+    for form in DRAWING_FORMS:
+        fits = 0
+        while fits < min(len(text), len(form)) and text[fits] in form[fits]:
+            fits += 1
+        if fits == len(text) == len(form):
+            return None
+        furthest = max(furthest, fits)
+    return furthest
+
+
+# Drawings that are no card's, and the place of the fault in each.
+WRONG_DRAWINGS = [
+    ("", 0), ("x", 0), (" ", 0), ("\n", 0), ("|", 0), ("O\n", 0), ("\no\n", 0),
+    ("o", 1), ("oo\n", 1), ("oxo\n", 1), ("o o\n", 1), ("o\r\n", 1), ("o\0", 1), ("o\xff", 1),
+    ("o|", 2), ("o|\n", 2), ("o||o\n", 2), ("o|xo\n", 2), ("o| o\n", 2),
+    ("o|o", 3), ("o|oo\n", 3), ("o|o \n", 3), ("o|o|\n", 4),
+    # One square wide: what stands behind the line may be a line of level places, but nothing else.
+    ("o\no", 2), ("o\n\n", 2), ("o\n ", 2), ("o\nx\no\n", 2), ("o\n|", 3), ("o\n||", 3), ("o\n| \no\n", 3),
+    ("o\n|\n", 4), ("o\n|\n|\n", 4), ("o\n|\n\n", 4), ("o\n|\no", 5), ("o\n|\no|o\n", 5), ("o\n|\no\no", 6),
+    # Two squares wide.
+    ("o/o\n/", 5), ("o/o\n//", 5), ("o/o\n/\n", 5), ("o/o\n/o", 5), ("o/o\n/ ", 6), ("o/o\n/ \n", 6),
+    ("o/o\n/ x\n", 6), ("o/o\n/  \n", 6), ("o/o\n/ -", 7), ("o/o\n/ - -\n", 7), ("o/o\n/ --\n", 7),
+    ("o/o\n/ -\n", 8), ("o/o\n/ -\n/", 8), ("o/o\n/ -\n\n", 8), ("o/o\n/ -\no", 9), ("o/o\n/ -\no\n", 9),
+    ("o/o\n/ -\no o\n", 9), ("o/o\n/ -\noxo\n", 9), ("o/o\n/ -\no\\", 10), ("o/o\n/ -\no\\\n", 10),
+    ("o/o\n/ -\no\\o", 11), ("o/o\n/ -\no\\o\\o\n", 11), ("o/o\n/ -\no\\o\no", 12), ("o/o\n/ -\no\\o\n\n", 12),
+    # A ninth square in a row, and a ninth row.
+    ("o" + "-o" * 8 + "\n", 15), ("o" + "-o" * 7 + "-\n", 15), ("o" + "-o" * 7 + "-", 15), ("o" + "-o" * 7, 15),
+    ("o" + "-o" * 7 + " ", 15), ("o" + "/o" * 7 + "oo", 15),
+    ("o\n" + "|\no\n" * 8, 30), ("o\n" + "|\no\n" * 7 + "|", 30), ("o\n" + "|\no\n" * 7 + "|\n", 30),
+    ("o\n" + "|\no\n" * 7 + "\n", 30), ("o\n" + "|\no\n" * 7 + "o", 30), ("o\n" + "|\no\n" * 7 + "o\n", 30),
+    ("o\n" + "|\no\n" * 6 + "|\n", 28), ("o\n" + "|\no\n" * 6 + "|\no", 29),
+]
+
+
+def wrong_drawings():
+    """Drawings that are no card's: some by hand, and right ones with bytes changed, left out or put in between."""
+    found = [in_bytes(text) for text, place in WRONG_DRAWINGS]
+    rights = [(told(1, 1, []), []), (told(2, 1, [0]), [1]), (told(1, 2, [2]), []), (plain(2, 2, 0), [0, 1, 1, 0])]
+    rights += [(mixed(wide, high, 4), None) for wide, high in ((3, 2), (2, 3), (8, 1), (1, 8), (4, 3))]
+    for b, w in rights:
+        t = drawing_of(b, mixed_weave(b, 0) if w is None else w)
+        for n in range(len(t) + 1):
+            found.append(t[:n])
+            found.append(t[:n] + t[n + 1:])
+            for byte in in_bytes(SIGNS + "o x\n\r\0O\xff"):
+                found += [t[:n] + [byte] + t[n:], t[:n] + [byte] + t[n + 1:]]
+    whole = drawing_of(mixed(8, 8, 4), mixed_weave(mixed(8, 8, 4), 0))
+    found += [whole[:n] + [byte] + whole[n + 1:] for n in range(0, 241, 7) for byte in in_bytes("o x\n|")]
+    found += [t + [byte] * (1024 - len(t)) for t in (whole, in_bytes("o\n"), []) for byte in in_bytes("o x\n|")]
+    return [t for t in found if first_fault(t) is not None]
+
+
+def long_drawings():
+    """Too many bytes: a right drawing's with some behind it, and none such at all."""
+    return [in_bytes("o\n") + [10] * 1023, in_bytes("x" * 1025), in_bytes("o|" * 1000)]
