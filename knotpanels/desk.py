@@ -5,7 +5,7 @@ its number alone, but for a drawing's: that tells the fault's place, too.
 """
 
 from knotpanels.bands import coming_round, copies_diagram, copies_panel, is_between, open_strands, ring_strands
-from knotpanels.breaks import strand_groups
+from knotpanels.breaks import finished_card, strand_groups
 from knotpanels.cards import Card, card_drawing, drawing_fault, read_card
 from knotpanels.grouping import group_count
 from knotpanels.motions import MOTIONS, least_motion, motions_between, moved_bytes, moved_panel, piece_to
@@ -295,3 +295,12 @@ def card_judge(t):
     strands = strand_count(drawn.panel)
     groups = strand_groups(drawn.panel)
     return [turns if strands == groups else 0, turns, strands, groups]
+
+
+def finish(b):
+    """How many bytes the drawing has of the panel finished; they."""
+    refused = panels_refused([b])
+    if refused != RIGHT_SO_FAR:
+        return [refused]
+    told = card_drawing(finished_card(read_panel(b)))
+    return [len(told)] + told
