@@ -1,7 +1,7 @@
-"""What holds over the whole program: the document's four points, sentence by sentence, asked by the calls alone.
+"""What holds over the whole program: the document's four points, sentence by sentence, and its interface.
 
-What the calls answer is held against other calls' answers, over panels,
-sizes, bands and cards of many kinds.
+What calls answer is held against what other calls answer, and here and there
+against lines on paper, over panels, sizes, bands and cards of many kinds.
 """
 
 import inspect
